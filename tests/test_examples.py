@@ -1,8 +1,12 @@
 """The examples of the document."""
 
 from tests.values import Case
+from trustedpages.books import Book
+from trustedpages.casts import Cast, words
 from trustedpages.errors import BadBytes
+from trustedpages.marks import Marks
 from trustedpages.moments import Moment
+from trustedpages.orders import cleaner_orders, is_cleaner, is_writer
 from trustedpages.pages import Page
 from trustedpages.rows import Row
 
@@ -26,3 +30,15 @@ class ExamplesTest(Case):
 
     def test_wrong_bytes(self):
         self.same(self.raised(BadBytes, Page.read, bytes([1, 40, 0, 41])).at, 1)
+
+    def test_marks(self):
+        self.assertEqual(Marks.read(10, bytes([1, 2])).pages(), [0, 9])
+
+    def test_orders(self):
+        self.assertEqual(
+            [is_writer("lock clear change unlock enter commit"), is_cleaner("set look"), len(list(cleaner_orders()))],
+            [True, False, 45])
+
+    def test_words(self):
+        self.assertEqual(
+            words(Book.careful(), Cast(1, ("end", 0, "gone")), 0), ["lock", "clear", "change", "unlock", "commit"])

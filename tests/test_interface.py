@@ -19,6 +19,32 @@ CLASSES = {
         "piece": "(self, first, last)", "twin": "(self)", "read": "(data)",
         "__len__": "", "__getitem__": "", "__setitem__": "", "__contains__": "", "__iadd__": "", "__eq__": "",
     }},
+    "marks": {"Marks": {
+        "__init__": "(self, many)", "pages": "(self)", "raw": "(self)", "twin": "(self)", "read": "(many, data)",
+        "__len__": "", "__getitem__": "", "__setitem__": "", "__or__": "", "__and__": "", "__ior__": "", "__iand__": "",
+        "__le__": "", "__eq__": "",
+    }},
+    "books": {"Book": {
+        "__init__": "(self, *, writer, cleaner, reader, horizon='all', pins=True, cleared=True, sets=True, force=True, "
+                    "ahead=True, first=False, waits=True, follower='wait')",
+        "change": "(self, **parts)", "twin": "(self)", "careful": "()", "plain": "()", "quick": "()",
+        "__getitem__": "", "__setitem__": "", "__eq__": "", "writer": "property", "cleaner": "property",
+        "reader": "property", "horizon": "property", "pins": "property", "cleared": "property", "sets": "property",
+        "force": "property", "ahead": "property", "first": "property", "waits": "property", "follower": "property",
+    }},
+    "casts": {"Cast": {
+        "__init__": "(self, old, *hands, marked=False)", "rows": "(self)", "putter": "(self, row)",
+        "enders": "(self, row)", "old": "property", "marked": "property",
+        "__len__": "", "__getitem__": "", "__add__": "", "__eq__": "",
+    }},
+}
+FUNCTIONS = {
+    "orders": {
+        "is_writer": "(value)", "is_cleaner": "(value)", "is_reader": "(value)", "writer_orders": "()",
+        "cleaner_orders": "()", "reader_orders": "()",
+    },
+    "books": {"assign": "(book, part, value)"},
+    "casts": {"words": "(book, cast, hand)"},
 }
 STATIC = ["of", "ancient", "read", "careful", "plain", "quick"]
 
@@ -32,6 +58,15 @@ class InterfaceTest(unittest.TestCase):
                 for method, arguments in methods.items():
                     with self.subTest(name=name, method=method):
                         self.check(vars(found)[method], method, arguments)
+
+    def test_functions(self):
+        for module, functions in FUNCTIONS.items():
+            for name, arguments in functions.items():
+                with self.subTest(name=name):
+                    found = getattr(importlib.import_module("trustedpages." + module), name)
+                    self.assertEqual(found.__module__, "trustedpages." + module)
+                    self.assertEqual(str(inspect.signature(found)), arguments)
+                    self.assertIs(inspect.isgeneratorfunction(found), name.endswith("_orders"))
 
     def check(self, found, method, arguments):
         self.assertIs(isinstance(found, property), arguments == "property")

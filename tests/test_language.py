@@ -64,7 +64,8 @@ def functions():
 
 def own_calls(node, known):
     """The functions and methods that a function calls or reads as properties, by their names alone."""
-    names = [child.id for child in ast.walk(node) if isinstance(child, ast.Name)]
+    names = [child.func.id for child in ast.walk(node)
+             if isinstance(child, ast.Call) and isinstance(child.func, ast.Name)]
     names += [child.attr for child in ast.walk(node) if isinstance(child, ast.Attribute)]
     return [other for name in names if name in known for other in known[name]]
 
@@ -132,6 +133,7 @@ class LanguageTest(unittest.TestCase):
         for name, node in nodes((ast.Name, ast.arg, ast.FunctionDef, ast.ClassDef)):
             word = getattr(node, "id", None) or getattr(node, "arg", None) or getattr(node, "name", None)
             self.assertNotIn(word, UNUSED, (name, node.lineno))
+            self.assertFalse(isinstance(node, ast.ClassDef) and word.startswith("_"), (name, node.lineno))
             if word.startswith("__"):
                 self.assertIn(word.strip("_"), SPECIAL, (name, node.lineno))
             elif hasattr(builtins, word):

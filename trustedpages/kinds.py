@@ -9,3 +9,8 @@ def is_whole(value):
 def is_between(value, low, high):
     """True for an integer from low to high."""
     return is_whole(value) and low <= value <= high
+
+
+def is_one_of(value, known):
+    """True for a string that is one of these."""
+    return isinstance(value, str) and value in known

@@ -49,8 +49,8 @@ class Page:
 
     def raw(self):
         """The bytes of the page: number of rows, rows, sum."""
-        body = [len(self._rows), *_row_bytes(self._rows)]
-        return bytes([*body, sum(body) & 255])
+        body = [len(self._rows)] + _row_bytes(self._rows)
+        return bytes(body + [sum(body) & 255])
 
     def piece(self, first, last):
         """The bytes of the rows from number first on, up to the one ahead of number last."""

@@ -66,8 +66,29 @@ def own_calls(node, known):
     """The functions and methods that a function calls or reads as properties, by their names alone."""
     names = [child.func.id for child in ast.walk(node)
              if isinstance(child, ast.Call) and isinstance(child.func, ast.Name)]
-    names += [child.attr for child in ast.walk(node) if isinstance(child, ast.Attribute)]
+    names += [child.attr for child in ast.walk(node) if isinstance(child, ast.Attribute) and child.attr != "__init__"]
     return [other for name in names if name in known for other in known[name]]
+
+
+def is_setter(node):
+    """True for the method that assigns a property."""
+    return any(ast.unparse(part).endswith(".setter") for part in node.decorator_list)
+
+
+def run_by_operators():
+    """All that operators, properties, == and len() run, by names alone; creating an object runs its __init__."""
+    known = functions()
+    for _, node in nodes(ast.ClassDef):
+        known[node.name] = [part for part in node.body if getattr(part, "name", "") == "__init__"]
+    waiting = [node for name, found in known.items() for node in found if name.strip("_") in PURE
+               or "property" in [ast.unparse(decorator) for decorator in node.decorator_list]]
+    seen = []
+    while waiting:
+        node = waiting.pop()
+        if node not in seen and not node.name.strip("_") in IN_PLACE and not is_setter(node):
+            seen.append(node)
+            waiting.extend(own_calls(node, known))
+    return seen
 
 
 def changes(node):
@@ -173,15 +194,30 @@ class LanguageTest(unittest.TestCase):
             methods = [part.name for part in node.body if isinstance(part, ast.FunctionDef)]
             self.assertTrue("__getitem__" not in methods or "__iter__" in methods, node.name)
 
+    def test_functions_have_names_of_their_own(self):
+        found = [node.name for _, _, tree in files() for node in tree.body
+                 if isinstance(node, (ast.FunctionDef, ast.ClassDef))]
+        self.assertEqual(sorted(found), sorted(set(found)))
+
     def test_operators_change_nothing(self):
+        for node in run_by_operators():
+            if node.name != "__init__":
+                self.assertEqual([ast.unparse(part) for part in changes(node)], [], node.name)
+
+    def test_operators_call_nothing_that_an_object_holds(self):
+        held = {node.attr for _, node in nodes(ast.Attribute) if isinstance(node.ctx, ast.Store)}
+        for node in run_by_operators():
+            given = {part.arg for part in ast.walk(node) if isinstance(part, ast.arg)}
+            for part in ast.walk(node):
+                if isinstance(part, ast.Call) and isinstance(part.func, ast.Attribute) and part.func.attr != "__init__":
+                    self.assertNotIn(part.func.attr, held, (node.name, node.lineno))
+                elif isinstance(part, ast.Call) and isinstance(part.func, ast.Name):
+                    self.assertNotIn(part.func.id, given, (node.name, node.lineno))
+
+    def test_what_operators_run_shares_no_name(self):
         known = functions()
-        waiting = [node for name, found in known.items() for node in found if name.strip("_") in PURE
-                   or "property" in [ast.unparse(decorator) for decorator in node.decorator_list]]
-        seen = set()
-        while waiting:
-            node = waiting.pop()
-            if node not in seen and node.name != "__init__" and not node.name.strip("_") in IN_PLACE:
-                seen.add(node)
-                if not any(ast.unparse(part).endswith(".setter") for part in node.decorator_list):
-                    self.assertEqual([ast.unparse(part) for part in changes(node)], [], node.name)
-                    waiting.extend(own_calls(node, known))
+        for node in run_by_operators():
+            for other in own_calls(node, known):
+                if not other.name.startswith("__") and not is_setter(other):
+                    found = [part for part in known[other.name] if not is_setter(part)]
+                    self.assertEqual(len(found), 1, (node.name, other.name))

@@ -27,7 +27,7 @@ def is_allowed(part, value):
     return isinstance(value, bool)
 
 
-def _check(parts):
+def _check_parts(parts):
     """Raises BadBook with the first of these parts whose value is not allowed."""
     for part in PARTS:
         if part in parts and not is_allowed(part, parts[part]):
@@ -74,7 +74,7 @@ class Book:
             "cleared": cleared, "sets": sets, "force": force, "ahead": ahead, "first": first, "waits": waits,
             "follower": follower,
         }
-        _check(parts)
+        _check_parts(parts)
         self._parts = parts
 
     @staticmethod
@@ -108,7 +108,7 @@ class Book:
         for part in parts:
             if not is_part(part):
                 raise UnknownPart(part)
-        _check(parts)
+        _check_parts(parts)
         self._parts.update(parts)
 
     def twin(self):

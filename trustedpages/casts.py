@@ -27,7 +27,7 @@ def _putters_of(old, hands):
     return [None] * old + [k for k, hand in enumerate(hands) if hand[0] == "put"]
 
 
-def _check(old, hands):
+def _check_hands(old, hands):
     """Raises BadCast with the first hand that is wrong."""
     for k, hand in enumerate(hands):
         if not _is_hand(hand):
@@ -48,7 +48,7 @@ class Cast:
             raise BadCast("old")
         if not isinstance(marked, bool):
             raise BadCast("marked")
-        _check(old, hands)
+        _check_hands(old, hands)
         self._old = old
         self._marked = marked
         self._hands = hands

@@ -1,6 +1,7 @@
 """The examples of the document."""
 
 from tests.values import Case
+from trustedpages.benches import Bench
 from trustedpages.books import Book
 from trustedpages.casts import Cast, words
 from trustedpages.errors import BadBytes
@@ -9,6 +10,9 @@ from trustedpages.moments import Moment
 from trustedpages.orders import cleaner_orders, is_cleaner, is_writer
 from trustedpages.pages import Page
 from trustedpages.rows import Row
+from trustedpages.runs import wrongs
+from trustedpages.shortest import wrong_in
+from trustedpages.verdicts import is_right
 
 
 class ExamplesTest(Case):
@@ -42,3 +46,17 @@ class ExamplesTest(Case):
     def test_words(self):
         self.assertEqual(
             words(Book.careful(), Cast(1, ("end", 0, "gone")), 0), ["lock", "clear", "change", "unlock", "commit"])
+
+    def test_benches(self):
+        book = Book.plain()
+        cast = Cast(0, ("put", "done"), ("read", 0), marked=True)
+        bench = Bench(book, cast)
+        said = bench.go(1, 1, 0, 0, 1, 1)
+        self.assertEqual([said, bench.told(1), bench.moment(1).writers(), wrongs(book, cast, bench.state())],
+                         [["hold", "mark", "change", "enter", "entry", "page"], True, [], [(1, "told")]])
+
+    def test_shortest(self):
+        self.assertEqual(len(wrong_in(Book.plain(), Cast(0, ("put", "done"), ("read", 0), marked=True))), 6)
+
+    def test_verdicts(self):
+        self.assertEqual([is_right(Book.careful()), is_right(Book.plain())], [True, False])

@@ -37,6 +37,11 @@ CLASSES = {
         "enders": "(self, row)", "old": "property", "marked": "property",
         "__len__": "", "__getitem__": "", "__add__": "", "__eq__": "",
     }},
+    "benches": {"Bench": {
+        "__init__": "(self, book, cast)", "state": "(self)", "can": "(self, hand)", "steps": "(self)",
+        "next_word": "(self, hand)", "page": "(self)", "moment": "(self, hand)", "told": "(self, hand)",
+        "twin": "(self)", "go": "(self, *hands)", "__call__": "(self, hand)", "mark": "property", "lock": "property",
+    }},
 }
 FUNCTIONS = {
     "orders": {
@@ -45,7 +50,15 @@ FUNCTIONS = {
     },
     "books": {"assign": "(book, part, value)"},
     "casts": {"words": "(book, cast, hand)"},
+    "runs": {
+        "start": "(book, cast)", "can_step": "(book, cast, state, hand)", "stepped": "(book, cast, state, hand)",
+        "wrongs": "(book, cast, state)", "played": "(book, cast, run)", "is_run": "(book, cast, run)",
+        "all_runs": "(book, cast, most)",
+    },
+    "shortest": {"wrong_in": "(book, cast, *, word=None)"},
+    "verdicts": {"few_casts": "()", "wrong_run": "(book)", "is_right": "(book)", "shortest": "(book)"},
 }
+GENERATORS = ["writer_orders", "cleaner_orders", "reader_orders", "steps", "all_runs"]
 STATIC = ["of", "ancient", "read", "careful", "plain", "quick"]
 
 
@@ -66,10 +79,11 @@ class InterfaceTest(unittest.TestCase):
                     found = getattr(importlib.import_module("trustedpages." + module), name)
                     self.assertEqual(found.__module__, "trustedpages." + module)
                     self.assertEqual(str(inspect.signature(found)), arguments)
-                    self.assertIs(inspect.isgeneratorfunction(found), name.endswith("_orders"))
+                    self.assertIs(inspect.isgeneratorfunction(found), name in GENERATORS)
 
     def check(self, found, method, arguments):
         self.assertIs(isinstance(found, property), arguments == "property")
         self.assertIs(isinstance(found, staticmethod), method in STATIC)
+        self.assertIs(inspect.isgeneratorfunction(found), method in GENERATORS)
         if arguments.startswith("("):
             self.assertEqual(str(inspect.signature(getattr(found, "__func__", found))), arguments)

@@ -7,7 +7,7 @@ NEVER = (0, 0)
 
 def _span(script, first, last):
     """The times of a hand from its step first until its step last, as `within` takes them."""
-    if first in script and last in script:
+    if first in script:
         return (script.index(first), script.index(last))
     return NEVER
 
@@ -18,8 +18,8 @@ def within(place, span):
 
 
 def _ended_span(hand, script, outcome):
-    """The times of a writer from its commit on if it has this outcome."""
-    if hand[0] in ("put", "end") and hand[-1] == outcome:
+    """The times of a hand from its commit on if it has this outcome."""
+    if hand[-1] == outcome:
         return (script.index("commit"), len(script))
     return NEVER
 
@@ -98,7 +98,7 @@ def _seen(scene, state, row, moment):
     """True if a moment sees a row as it is now."""
     putter = scene.putters[row]
     ender = state[1][row][1]
-    return (putter is None or putter in moment) and (ender is None or ender not in moment)
+    return (putter is None or putter in moment) and ender not in moment
 
 
 def is_dead(scene, state, row):
@@ -238,7 +238,7 @@ def may_step(scene, state, hand):
     """True if the next step of a hand can come."""
     word = word_of(scene, state, hand)
     if word == "lock":
-        return not any([within(place, scene.locking[k]) for k, place in enumerate(state[0]) if k != hand])
+        return holder(scene, state) is None
     if word == "remove":
         return not any([within(place, scene.pinning[k]) for k, place in enumerate(state[0])])
     if word == "change" and scene.hands[hand][0] == "end":

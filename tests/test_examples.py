@@ -5,6 +5,9 @@ from trustedpages.benches import Bench
 from trustedpages.books import Book
 from trustedpages.casts import Cast, words
 from trustedpages.errors import BadBytes
+from trustedpages.falls import wrong_fall
+from trustedpages.logs import History
+from trustedpages.losses import harm, losses, recovered
 from trustedpages.marks import Marks
 from trustedpages.moments import Moment
 from trustedpages.orders import cleaner_orders, is_cleaner, is_writer
@@ -60,3 +63,20 @@ class ExamplesTest(Case):
 
     def test_verdicts(self):
         self.assertEqual([is_right(Book.careful()), is_right(Book.plain())], [True, False])
+
+    def test_losses(self):
+        history = History(Book.careful(), Cast(0, ("put", "done"), marked=True), [0, 0, 0])
+        self.assertEqual(
+            [history.notes(), history.marks(), list(losses(history))],
+            [[("cleared",), ("change", 0)], [True, False], [
+                (0, 0, 0), (0, 0, 1), (1, 0, 0), (1, 0, 1), (2, 0, 0), (2, 0, 1), (2, 1, 0), (2, 1, 1)]])
+
+    def test_harm(self):
+        book = Book.careful()
+        nothing = book.change(cleared=False)
+        history = History(book, Cast(0, ("put", "done"), marked=True), [0, 0, 0])
+        self.assertEqual([recovered(history, (1, 0, 0))[:2], harm(history, (1, 0, 0)), nothing],
+                         [([(1, None)], True), ("told", 0), None])
+
+    def test_falls(self):
+        self.assertIsNone(wrong_fall(Book.careful()))

@@ -42,6 +42,11 @@ CLASSES = {
         "next_word": "(self, hand)", "page": "(self)", "moment": "(self, hand)", "told": "(self, hand)",
         "twin": "(self)", "go": "(self, *hands)", "__call__": "(self, hand)", "mark": "property", "lock": "property",
     }},
+    "logs": {"History": {
+        "__init__": "(self, book, cast, run)", "notes": "(self)", "changes": "(self)", "marks": "(self)",
+        "notes_at_change": "(self, k)", "marks_at_change": "(self, k)", "notes_at_mark": "(self, m)",
+        "set_at_mark": "(self, m)", "book": "(self)", "cast": "property",
+    }},
 }
 FUNCTIONS = {
     "orders": {
@@ -57,8 +62,14 @@ FUNCTIONS = {
     },
     "shortest": {"wrong_in": "(book, cast, *, word=None)"},
     "verdicts": {"few_casts": "()", "wrong_run": "(book)", "is_right": "(book)", "shortest": "(book)"},
+    "losses": {
+        "losses": "(history)", "can_be": "(history, loss)", "recovered": "(history, loss)",
+        "harm": "(history, loss)", "least_forced": "(history, loss)", "with_all": "(history)",
+        "without_sets": "(history, loss)", "harmless": "(history)",
+    },
+    "falls": {"fall_in": "(book, cast)", "fall_casts": "()", "wrong_fall": "(book)"},
 }
-GENERATORS = ["writer_orders", "cleaner_orders", "reader_orders", "steps", "all_runs"]
+GENERATORS = ["writer_orders", "cleaner_orders", "reader_orders", "steps", "all_runs", "losses"]
 STATIC = ["of", "ancient", "read", "careful", "plain", "quick"]
 
 

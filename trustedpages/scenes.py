@@ -49,6 +49,12 @@ class Scene:
         self.endings = [cast.enders(row) for row in range(cast.rows())]
         self.marked_first = cast.marked
         self.heeds = book.horizon == "all"
+        self.clear_noted = book.cleared
+        self.set_noted = book.sets
+        self.commit_forces = book.force
+        self.log_ahead = book.ahead
+        self.mark_ahead = book.first
+        self.set_waits = book.waits
         self.locking = [_span(script, "lock", "unlock") for script in self.scripts]
         self.pinning = [_span(script, "entry", "mark") if book.pins else NEVER for script in self.scripts]
         self.knowing = [_known_span(script) for script in self.scripts]

@@ -194,6 +194,25 @@ class LanguageTest(unittest.TestCase):
             methods = [part.name for part in node.body if isinstance(part, ast.FunctionDef)]
             self.assertTrue("__getitem__" not in methods or "__iter__" in methods, node.name)
 
+    def test_attributes_are_no_methods(self):
+        stored = {node.attr for _, node in nodes(ast.Attribute) if isinstance(node.ctx, ast.Store)}
+        for name, node in nodes(ast.ClassDef):
+            for part in node.body:
+                if isinstance(part, ast.FunctionDef) and not is_setter(part):
+                    getter = "property" in [ast.unparse(decorator) for decorator in part.decorator_list]
+                    self.assertTrue(getter or part.name not in stored, (name, part.name))
+
+    def test_locals_have_no_name_of_their_file(self):
+        for name, _, tree in files():
+            known = {node.name for node in tree.body if isinstance(node, (ast.FunctionDef, ast.ClassDef))}
+            known |= {part.name for node in tree.body if isinstance(node, ast.ImportFrom) for part in node.names}
+            for node in ast.walk(tree):
+                if isinstance(node, ast.FunctionDef):
+                    found = {part.arg for part in ast.walk(node) if isinstance(part, ast.arg)}
+                    found |= {part.id for part in ast.walk(node) if isinstance(part, ast.Name)
+                              and isinstance(part.ctx, ast.Store)}
+                    self.assertEqual(found & known, set(), (name, node.name))
+
     def test_functions_have_names_of_their_own(self):
         found = [node.name for _, _, tree in files() for node in tree.body
                  if isinstance(node, (ast.FunctionDef, ast.ClassDef))]

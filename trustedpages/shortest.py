@@ -26,12 +26,15 @@ def _first_run(scene, sought):
         further = []
         for state in level:
             for hand in range(len(scene.hands)):
-                behind = step_from(scene, state, hand) if may_step(scene, state, hand) else state
-                if behind not in came:
-                    came[behind] = (state, hand)
-                    if wrong_word(scene, behind, hand) in sought:
-                        return run_to(came, behind)
-                    further.append(behind)
+                if not may_step(scene, state, hand):
+                    continue
+                behind = step_from(scene, state, hand)
+                if behind in came:
+                    continue
+                came[behind] = (state, hand)
+                if wrong_word(scene, behind, hand) in sought:
+                    return run_to(came, behind)
+                further.append(behind)
         level = further
     return None
 

@@ -6,6 +6,7 @@ from trustedpages.books import Book
 from trustedpages.casts import Cast, words
 from trustedpages.errors import BadBytes
 from trustedpages.falls import wrong_fall
+from trustedpages.followers import wrong_follower
 from trustedpages.logs import History
 from trustedpages.losses import harm, losses, recovered
 from trustedpages.marks import Marks
@@ -14,6 +15,7 @@ from trustedpages.orders import cleaner_orders, is_cleaner, is_writer
 from trustedpages.pages import Page
 from trustedpages.rows import Row
 from trustedpages.runs import wrongs
+from trustedpages.savings import least_looks, looks, saved
 from trustedpages.shortest import wrong_in
 from trustedpages.verdicts import is_right
 
@@ -78,5 +80,11 @@ class ExamplesTest(Case):
         self.assertEqual([recovered(history, (1, 0, 0))[:2], harm(history, (1, 0, 0)), nothing],
                          [([(1, None)], True), ("told", 0), None])
 
-    def test_falls(self):
-        self.assertIsNone(wrong_fall(Book.careful()))
+    def test_falls_and_followers(self):
+        self.assertEqual([wrong_fall(Book.careful()), wrong_follower(Book.careful())], [None, None])
+
+    def test_savings(self):
+        deeds = [("write", 0), ("read", 0), ("read", 0), ("write", 0), ("read", 0)]
+        marks = Marks(1)
+        self.assertEqual([looks(deeds, marks, []), least_looks(deeds, marks, 1), saved(deeds, marks)],
+                         [3, (1, [(1, 0)]), [3, 1, 0]])

@@ -68,6 +68,14 @@ FUNCTIONS = {
         "without_sets": "(history, loss)", "harmless": "(history)",
     },
     "falls": {"fall_in": "(book, cast)", "fall_casts": "()", "wrong_fall": "(book)"},
+    "followers": {
+        "logs": "(book, cast)", "followed": "(book, cast, notes, moves)", "wrong_follower": "(book)",
+    },
+    "savings": {
+        "looks": "(deeds, marks, cleanings)", "least_looks": "(deeds, marks, many)", "saved": "(deeds, marks)",
+    },
+    "checker": {"is_state": "(book, cast, value)", "lets": "(book, cast, paper)"},
+    "papers": {"paper": "(book, cast)", "closed": "(book, cast, states)"},
 }
 GENERATORS = ["writer_orders", "cleaner_orders", "reader_orders", "steps", "all_runs", "losses"]
 STATIC = ["of", "ancient", "read", "careful", "plain", "quick"]

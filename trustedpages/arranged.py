@@ -129,8 +129,16 @@ def harm_to(scene, rows, mark, moment):
     return missed
 
 
-def harmful_loss(ledger):
-    """A loss that can be and does harm, or None."""
+def left_by(ledger, n, p, m):
+    """What a fall with this loss leaves: the rows, the mark, and the list of the hands of the moment."""
+    rows = page_behind(ledger, p)
+    for note in ledger.log[:n]:
+        rows = replayed(ledger.scene, rows, note)
+    return (rows, mark_behind(ledger, n, m), moment_behind(ledger, n))
+
+
+def harmful_loss(ledger, sought):
+    """A loss that can be and does harm with one of these words, or None."""
     for p in range(len(ledger.page_log) + 1):
         rows = page_behind(ledger, p)
         for n in range(len(ledger.log) + 1):
@@ -141,6 +149,6 @@ def harmful_loss(ledger):
             if harm_to(ledger.scene, rows, True, moment) is not None:
                 for m in range(len(ledger.mark_values)):
                     harm = harm_to(ledger.scene, rows, mark_behind(ledger, n, m), moment)
-                    if harm is not None and can_lose(ledger, n, p, m):
+                    if harm is not None and harm[0] in sought and can_lose(ledger, n, p, m):
                         return (n, p, m)
     return None

@@ -3,8 +3,8 @@
 from trustedpages.arranged import Ledger, entries, harmful_loss
 from trustedpages.casts import Cast
 from trustedpages.errors import TooMany
-from trustedpages.scenes import Scene, begin, may_step, step_from
-from trustedpages.shortest import MOST_SEARCHED, run_to
+from trustedpages.scenes import Scene, begin, leads, path_to
+from trustedpages.shortest import MOST_SEARCHED, WRONG_WORDS
 from trustedpages.verdicts import few_casts
 
 
@@ -15,8 +15,8 @@ def _key(state, trail):
     return (places, looks, tuple(moments), trail)
 
 
-def _first_fall(scene):
-    """A shortest run with a loss that does harm, or None."""
+def _first_fall(scene, sought):
+    """A shortest run with a loss that does harm with one of these words, or None."""
     begun = begin(scene)
     came = {_key(begun, ()): None}
     harmless_trails = {(): True}
@@ -24,10 +24,7 @@ def _first_fall(scene):
     while level:
         further = []
         for state, trail in level:
-            for hand in range(len(scene.hands)):
-                if not may_step(scene, state, hand):
-                    continue
-                behind = step_from(scene, state, hand)
+            for hand, behind in leads(scene, state):
                 longer = (*trail, *entries(scene, state, hand))
                 key = _key(behind, longer)
                 if key in came:
@@ -35,9 +32,9 @@ def _first_fall(scene):
                 came[key] = (_key(state, trail), hand)
                 further.append((behind, longer))
                 if longer not in harmless_trails:
-                    loss = harmful_loss(Ledger(scene, longer))
+                    loss = harmful_loss(Ledger(scene, longer), sought)
                     if loss is not None:
-                        return (run_to(came, key), loss)
+                        return (path_to(came, key), loss)
                     harmless_trails[longer] = True
         level = further
     return None
@@ -47,7 +44,15 @@ def fall_in(book, cast):
     """A shortest run of a cast and a loss that does harm, or None."""
     if len(cast) > MOST_SEARCHED:
         raise TooMany(MOST_SEARCHED)
-    return _first_fall(Scene(book, cast))
+    return _first_fall(Scene(book, cast), WRONG_WORDS)
+
+
+def can_fall(book, word):
+    """True if a run of one of the few casts can fall with a harm with this word."""
+    for cast in fall_casts():
+        if _first_fall(Scene(book, cast), (word,)) is not None:
+            return True
+    return False
 
 
 def fall_casts():

@@ -1,6 +1,6 @@
 """Losses: what can be on the disk when the machine falls, and what harm it does."""
 
-from trustedpages.arranged import can_lose, harm_to, is_within, mark_behind, moment_behind, page_behind, replayed
+from trustedpages.arranged import can_lose, harm_to, is_within, left_by
 from trustedpages.errors import BadLoss
 from trustedpages.kinds import is_whole
 from trustedpages.moments import Moment
@@ -31,11 +31,7 @@ def _left_by(history, loss):
     if not can_be(history, loss):
         raise BadLoss(loss)
     n, p, m = loss
-    ledger = history.ledger
-    rows = page_behind(ledger, p)
-    for note in ledger.log[:n]:
-        rows = replayed(ledger.scene, rows, note)
-    return (rows, mark_behind(ledger, n, m), moment_behind(ledger, n))
+    return left_by(history.ledger, n, p, m)
 
 
 def recovered(history, loss):

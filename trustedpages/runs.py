@@ -3,7 +3,7 @@
 from trustedpages.benches import Bench
 from trustedpages.errors import NoStep
 from trustedpages.kinds import is_between
-from trustedpages.scenes import Scene, begin, may_step, step_from, wrong_word
+from trustedpages.scenes import Scene, begin, leads, may_step, step_from, wrong_word
 
 
 def start(book, cast):
@@ -53,8 +53,7 @@ def is_run(book, cast, run):
 
 def _longer(scene, level):
     """The runs with one step more, each with the state behind it."""
-    return [((*run, hand), step_from(scene, state, hand)) for run, state in level
-            for hand in range(len(scene.hands)) if may_step(scene, state, hand)]
+    return [((*run, hand), behind) for run, state in level for hand, behind in leads(scene, state)]
 
 
 def all_runs(book, cast, most):

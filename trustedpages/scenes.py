@@ -100,10 +100,9 @@ def _moments(scene, state):
     return [state[4][hand][0] for hand, span in enumerate(scene.knowing) if within(state[0][hand], span)]
 
 
-def _seen(scene, state, row, moment):
-    """True if a moment sees a row as it is now."""
+def seen_with(scene, row, ender, moment):
+    """True if a moment sees a row that has this ender now."""
     putter = scene.putters[row]
-    ender = state[1][row][1]
     return (putter is None or putter in moment) and ender not in moment
 
 
@@ -117,7 +116,7 @@ def is_dead(scene, state, row):
         return True
     if ender is None or not is_done(scene, state, ender):
         return False
-    return not any([_seen(scene, state, row, moment) for moment in _moments(scene, state)])
+    return not any([seen_with(scene, row, ender, moment) for moment in _moments(scene, state)])
 
 
 def _seen_by_all(scene, state, row):
@@ -213,7 +212,8 @@ def _page(scene, state, hand):
     places, rows, mark, looks, readers = state
     moment, found, marked, _ = readers[hand]
     row = scene.targets[hand]
-    told = found and (marked or (rows[row][0] == 1 and _seen(scene, state, row, moment)))
+    there, ender, _ = rows[row]
+    told = found and (marked or (there == 1 and seen_with(scene, row, ender, moment)))
     return (places, rows, mark, looks, _replaced(readers, hand, (moment, found, marked, told)))
 
 
@@ -259,15 +259,70 @@ def step_from(scene, state, hand):
     return (_replaced(places, hand, places[hand] + 1), rows, mark, looks, readers)
 
 
+def leads(scene, state):
+    """The steps that can come: a list of tuples of the hand and the state behind its step."""
+    return [(hand, step_from(scene, state, hand)) for hand in range(len(scene.hands)) if may_step(scene, state, hand)]
+
+
+def wrong_telling(scene, row, moment, told):
+    """How it is wrong to have told this of a row in a moment: "told", "missed" or None."""
+    putter = scene.putters[row]
+    begun = putter is None or putter in moment
+    sees = begun and not any([ender in moment for ender in scene.endings[row]])
+    if sees == told:
+        return None
+    return "missed" if sees else "told"
+
+
 def wrong_word(scene, state, hand):
     """How a reader is wrong: "told", "missed" or None."""
     reader = state[4][hand]
     if reader is None or reader[3] is None:
         return None
-    row = scene.targets[hand]
-    putter = scene.putters[row]
-    begun = putter is None or putter in reader[0]
-    sees = begun and not any([ender in reader[0] for ender in scene.endings[row]])
-    if sees == reader[3]:
-        return None
-    return "missed" if sees else "told"
+    return wrong_telling(scene, scene.targets[hand], reader[0], reader[3])
+
+
+def first_path(begun, ways, is_sought):
+    """A shortest list of steps to a place that is sought, or None.
+
+    `ways(place)` gives the list of tuples (step, place behind it); `is_sought(place, step)` is asked once for each
+    place but the first one, with the step that led there.
+    """
+    came = {begun: None}
+    level = [begun]
+    while level:
+        further = []
+        for place in level:
+            for step, behind in ways(place):
+                if behind in came:
+                    continue
+                came[behind] = (place, step)
+                if is_sought(behind, step):
+                    return path_to(came, behind)
+                further.append(behind)
+        level = further
+    return None
+
+
+def path_to(came, place):
+    """The steps to a place; `came` has for each place the one ahead of it and the step between, None for the first."""
+    path = []
+    while came[place] is not None:
+        place, step = came[place]
+        path.append(step)
+    return path[::-1]
+
+
+def all_reached(begun, ways):
+    """The list of the places that can be reached from these, each once; `ways` as above."""
+    known = {place: True for place in begun}
+    level = list(known)
+    while level:
+        further = []
+        for place in level:
+            for _, behind in ways(place):
+                if behind not in known:
+                    known[behind] = True
+                    further.append(behind)
+        level = further
+    return list(known)

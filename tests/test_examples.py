@@ -4,7 +4,9 @@ from tests.values import Case
 from trustedpages.benches import Bench
 from trustedpages.books import Book
 from trustedpages.casts import Cast, words
-from trustedpages.errors import BadBytes
+from trustedpages.changes import least_changes
+from trustedpages.console import Console
+from trustedpages.errors import BadBytes, BadText
 from trustedpages.falls import wrong_fall
 from trustedpages.followers import wrong_follower
 from trustedpages.logs import History
@@ -17,6 +19,7 @@ from trustedpages.rows import Row
 from trustedpages.runs import wrongs
 from trustedpages.savings import least_looks, looks, saved
 from trustedpages.shortest import wrong_in
+from trustedpages.texts import read_book
 from trustedpages.verdicts import is_right
 
 
@@ -88,3 +91,19 @@ class ExamplesTest(Case):
         marks = Marks(1)
         self.assertEqual([looks(deeds, marks, []), least_looks(deeds, marks, 1), saved(deeds, marks)],
                          [3, (1, [(1, 0)]), [3, 1, 0]])
+
+    def test_least_changes(self):
+        menu = [("writer", "lock clear change unlock enter commit"), ("cleaner", "lock look set unlock"),
+                ("reader", "hold entry mark page"), ("pins", False)]
+        kinds = [("told", "put"), ("told", "end"), ("missed", "put"), ("missed", "end")]
+        self.assertEqual(least_changes(Book.plain(), menu, kinds), [(0, 1, 2)])
+
+    def test_texts(self):
+        self.same(self.raised(BadText, read_book, "pins = yes").at, 1)
+
+    def test_console(self):
+        console = Console()
+        first = console.say("hand put done")
+        second = console.say("step 0")
+        self.assertEqual([first, second, console.say("mark"), console.say("verdict")],
+                         [[], ["change"], ["no"], ["wrong", "6"]])

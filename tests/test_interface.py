@@ -47,6 +47,18 @@ CLASSES = {
         "notes_at_change": "(self, k)", "marks_at_change": "(self, k)", "notes_at_mark": "(self, m)",
         "set_at_mark": "(self, m)", "book": "(self)", "cast": "property",
     }},
+    "compared": {"Faults": {
+        "__init__": "(self, book)", "kinds": "(self)", "__len__": "", "__contains__": "", "__le__": "", "__lt__": "",
+        "__ge__": "", "__gt__": "", "__or__": "", "__and__": "", "__eq__": "",
+    }},
+    "sessions": {
+        "Session": {
+            "__init__": "(self, book)", "book": "(self)", "put": "(self, part, value)", "undo": "(self)",
+            "trial": "(self)", "tried": "(self, changes)", "__len__": "",
+        },
+        "Trial": {"__init__": "(self, session)", "__enter__": "", "__exit__": ""},
+    },
+    "console": {"Console": {"__init__": "(self)", "say": "(self, row)"}},
 }
 FUNCTIONS = {
     "orders": {
@@ -76,6 +88,9 @@ FUNCTIONS = {
     },
     "checker": {"is_state": "(book, cast, value)", "lets": "(book, cast, paper)"},
     "papers": {"paper": "(book, cast)", "closed": "(book, cast, states)"},
+    "compared": {"safest": "(books)"},
+    "changes": {"changed": "(book, changes)", "least_changes": "(book, menu, kinds)"},
+    "texts": {"book_text": "(book)", "read_book": "(text)"},
 }
 GENERATORS = ["writer_orders", "cleaner_orders", "reader_orders", "steps", "all_runs", "losses"]
 STATIC = ["of", "ancient", "read", "careful", "plain", "quick"]

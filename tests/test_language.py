@@ -161,6 +161,12 @@ class LanguageTest(unittest.TestCase):
                 self.assertIn(word, BUILTINS, (name, node.lineno))
                 self.assertIsInstance(getattr(node, "ctx", None), ast.Load, (name, node.lineno))
 
+    def test_beginnings_of_names(self):
+        for name, text, _ in files():
+            for word in re.findall(r"[A-Za-z_][A-Za-z0-9_]*", text):
+                self.assertNotRegex(word, r"^_(pe_|dcw_|enum_|cm_|twin_re_|lay_|law_|stub_|sre)", name)
+                self.assertNotRegex(word, r"^_(cold|tuplegetter|outside|record|written_out|member_names)[0-9_]*$", name)
+
     def test_barred_words(self):
         for name, text, _ in files():
             self.assertIsNone(BARRED.search(text), name)
@@ -188,6 +194,31 @@ class LanguageTest(unittest.TestCase):
             parts = node.type.elts if isinstance(node.type, ast.Tuple) else [node.type]
             for part in parts:
                 self.assertIn(part.id, CATCHABLE | own, (name, node.lineno))
+
+    def test_what_is_sorted(self):
+        # Where a class has an order, these take numbers and strings that can be told as such.
+        for name, node in nodes(ast.Call):
+            if isinstance(node.func, ast.Name) and node.func.id in ("sorted", "min", "max"):
+                keys = [ast.unparse(part.value) for part in node.keywords if part.arg == "key"]
+                plain = isinstance(node.args[0], ast.ListComp) and isinstance(node.args[0].elt, ast.Call) and (
+                    ast.unparse(node.args[0].elt.func) in ("int", "len", "str", "repr", "ord"))
+                self.assertTrue(plain or keys in (["str"], ["len"], ["int"]), (name, node.lineno))
+
+    def test_what_stands_behind_a_star(self):
+        for name, node in nodes(ast.Call):
+            stars = [at for at, part in enumerate(node.args) if isinstance(part, ast.Starred)]
+            behind = node.args[stars[0] + 1:] + [part.value for part in node.keywords] if stars else []
+            for part in behind:
+                self.assertRegex(ast.unparse(part), r"^[a-z_]+(\._[a-z]+)?$", (name, node.lineno))
+
+    def test_what_an_exit_does(self):
+        for name, node in nodes(ast.FunctionDef):
+            if node.name == "__exit__":
+                self.assertEqual([part.arg for part in node.args.args], ["self", "kind", "value", "trace"])
+                for part in node.body:
+                    self.assertIsInstance(part, ast.Assign, (name, part.lineno))
+                    self.assertIsInstance(part.value, ast.Attribute, (name, part.lineno))
+                    self.assertIsInstance(part.targets[0], ast.Attribute, (name, part.lineno))
 
     def test_classes_with_items_have_an_iter(self):
         for name, node in nodes(ast.ClassDef):

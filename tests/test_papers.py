@@ -137,8 +137,9 @@ class IsStateTest(Case):
 
     def test_values_of_a_reader_that_are_known(self):
         readings = [((0,), True, False, True)[:at] + (None,) * (4 - at) for at in range(5)]
-        for order, known in [("hold entry mark page", [0, 1, 2, 3, 4]), ("take tell entry mark page", [0, 1, 1, 2, 3, 4]),
-                             ("take entry tell mark page", [0, 1, 2, 2, 3, 4])]:
+        for order, known in [
+                ("hold entry mark page", [0, 1, 2, 3, 4]), ("take tell entry mark page", [0, 1, 1, 2, 3, 4]),
+                ("take entry tell mark page", [0, 1, 2, 2, 3, 4])]:
             book = Book(writer=self.BOOK.writer, cleaner="look set", reader=order)
             for place, many in enumerate(known):
                 for number, reading in enumerate(readings):
@@ -401,8 +402,9 @@ class LetsTest(Case):
             self.same(lets(WRONG, DONE, value), False)
 
     def test_four_and_five_hands(self):
+        ends = [("end", 0, "done"), ("end", 0, "gone")]
         for cast in (Cast(1, ("read", 0), ("end", 0, "gone"), ("clean",), ("read", 0)),
-                     Cast(1, ("end", 0, "done"), ("end", 0, "gone"), ("clean",), ("end", 0, "done"), ("end", 0, "gone"))):
+                     Cast(1, *ends, ("clean",), *ends)):
             book = Book(writer="lock clear change unlock enter commit", cleaner="lock look set unlock",
                         reader="hold entry mark page")
             states = list(closure(book, cast, [Model(book, cast).state()]))

@@ -167,8 +167,8 @@ def no_cleanings(many):
 class ErrorsTest(Case):
     def test_values_that_are_no_deeds(self):
         for value in no_deeds():
-            for deeds, index in [([value], 0), ([("read", 0), value], 1), ([("write", 1), value, ("read", 0), value], 1),
-                                 ([value, value], 0)]:
+            for deeds, index in [([value], 0), ([("read", 0), value], 1), ([value, value], 0),
+                                 ([("write", 1), value, ("read", 0), value], 1)]:
                 self.same(self.raised(BadDeed, looks, deeds, Marks(2), []).index, index)
                 self.same(self.raised(BadDeed, looks, deeds, Marks(2), ["no cleaning"]).index, index)
                 self.same(self.raised(BadDeed, least_looks, deeds, Marks(2), 3).index, index)

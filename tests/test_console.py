@@ -33,7 +33,7 @@ WRONG_ROWS = [
     "hand\tput\tdone", "hand put done\n", "set\tpins\tyes", "set pins\tyes", "help", "quit", "old 1;", "None",
 ]
 WRONG_NUMBERS = ["-0", "-1", "+0", "+1", "00", "01", "001", "1.0", "0x1", "1_0", "1,", "\u0661", "\u00b2", "\uff11",
-                 "\u2460", "one", "O", "0\n", "\t0", "None", "True", "R", "1e1", "''"]
+                 "\u2460", "one", "O", "0\n", "\t0", "None", "True", "R", "1e1", "x", "1x", "''"]
 
 
 def bad_rows():

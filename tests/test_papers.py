@@ -135,6 +135,12 @@ class IsStateTest(Case):
                       (0, True), (0.0,), ("0",), (None,), ((0,),), [0], [], {0}, {}, 0, None, False, "", "01"]
         self.bend((4, 2, 0), moments, [*no_moments, *[value for value in strange_values() if value not in ((), (0,))]])
 
+    def test_moments_with_the_last_hand(self):
+        cast = Cast(0, ("read", 0), ("put", "done"))
+        for moment, good in [((), True), ((1,), True), ((-1,), False), ((0,), False), ((2,), False), ((-1, 1), False)]:
+            state = ((1, 0), ((0, None, False),), False, (False, False), ((moment, None, None, None), None))
+            self.same(is_state(RIGHT, cast, state), good)
+
     def test_values_of_a_reader_that_are_known(self):
         readings = [((0,), True, False, True)[:at] + (None,) * (4 - at) for at in range(5)]
         for order, known in [

@@ -36,8 +36,9 @@ def read_book(text):
     lines = text.split("\n")
     parts = {}
     for at, line in enumerate(lines):
-        part, sign, word = line.partition(SIGN)
-        if sign == "" or not is_part(part) or part in parts or not is_allowed(part, value_of(word)):
+        # Without the sign the word is empty, which no part allows.
+        part, _, word = line.partition(SIGN)
+        if not is_part(part) or part in parts or not is_allowed(part, value_of(word)):
             raise BadText(at)
         parts[part] = value_of(word)
     for part in PARTS:
